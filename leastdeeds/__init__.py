@@ -1,0 +1,1 @@
+"""Leastdeeds: the least rows of a little machine."""
