@@ -1,7 +1,7 @@
 """What rows do: their runs and their behaviours."""
 
 from leastdeeds.errors import NoWord
-from leastdeeds.machines import beginnings, is_beginning, need_row
+from leastdeeds.machines import beginnings, is_beginning, is_tuple_of, need_row
 
 
 def turned(deed, standing):
@@ -58,3 +58,9 @@ def behaviour(machine, row):
     """The ends of a row from all beginnings, in order."""
     need_row(machine, row)
     return tuple([all_standing(machine, row, start)[-1] for start in beginnings(machine)])
+
+
+def are_behaviours(machine, things):
+    """Whether each of some things is a tuple of an end for each beginning of a machine."""
+    many = len(beginnings(machine))
+    return all([is_tuple_of(many, thing) and all([is_beginning(machine, end) for end in thing]) for thing in things])

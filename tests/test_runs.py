@@ -1,47 +1,16 @@
-import copy
 import itertools
 import unittest
 
-from leastdeeds.errors import DeedError, NoMachine, NoRow, NoWord, TooLong
+from leastdeeds.errors import NoMachine, NoRow, NoWord, TooLong
 from leastdeeds.machines import beginnings
 from leastdeeds.runs import behaviour, run
+from tests.plainly import new_word, refusal_of, rows_to
 from tests.samples import (
     ALL_ON_ONE_PLACE, ALL_ON_TWO_PLACES, FOUR_WORDS, MACHINES, NO_MACHINES, STRANGE, TWO_WORDS_TWO_PLACES,
 )
 
 TABLE = (2, 0, 1)
 TABLES = ((1, 0, 2), (2, 2, 0), (0, 1, 1))
-
-
-def rows_to(machine, longest):
-    for long in range(longest + 1):
-        for row in itertools.product(range(len(machine[2])), repeat=long):
-            yield list(row)
-
-
-def new_word(deed, start):
-    """What point 4 says of each sort, written out once more."""
-    match deed:
-        case ("turn", at, table, _):
-            return table[start[at]]
-        case ("join", at, other, tables, _):
-            return tables[start[at]][start[other]]
-        case ("move", _, other, _):
-            return start[other]
-        case ("put", _, word, _):
-            return word
-
-
-def refusal_of(ask, *things):
-    kept = copy.deepcopy(things)
-    try:
-        ask(*things)
-        refusal = None
-    except DeedError as e:
-        refusal = e
-    if things != kept:
-        raise AssertionError(f"changed: {kept}")
-    return refusal
 
 
 class RunTest(unittest.TestCase):
