@@ -146,8 +146,13 @@ def need_row(machine, row):
         raise TooLong(f"a row has at most {LONGEST_ROW} deeds")
 
 
+def summed_cost(machine, row):
+    """The cost of all deeds of a row, of any length; nothing is asked of what is handed in."""
+    # The cost stands last in each sort of deed.
+    return sum([machine[2][number][-1] for number in row])
+
+
 def cost(machine, row):
     """The cost of all deeds of a row together."""
     need_row(machine, row)
-    # The cost stands last in each sort of deed.
-    return sum([machine[2][number][-1] for number in row])
+    return summed_cost(machine, row)

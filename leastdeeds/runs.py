@@ -54,10 +54,15 @@ def run(machine, row, beginning):
     return all_standing(machine, row, beginning)
 
 
+def ends_of(machine, row):
+    """The ends of a row, of any length, from all beginnings; nothing is asked of the row."""
+    return tuple([all_standing(machine, row, start)[-1] for start in beginnings(machine)])
+
+
 def behaviour(machine, row):
     """The ends of a row from all beginnings, in order."""
     need_row(machine, row)
-    return tuple([all_standing(machine, row, start)[-1] for start in beginnings(machine)])
+    return ends_of(machine, row)
 
 
 def are_behaviours(machine, things):

@@ -145,6 +145,57 @@ class LanguageTest(unittest.TestCase):
             for name in free:
                 del draws[name]
 
+    def test_classes(self):
+        methods, values, asked = set(), set(), set()
+        for name, tree in self.trees.items():
+            classes = [node for node in tree.body if isinstance(node, ast.ClassDef)]
+            self.assertEqual(len(classes), sum(isinstance(node, ast.ClassDef) for node in ast.walk(tree)), name)
+            for one in classes:
+                found = [part.name for part in one.body if isinstance(part, ast.FunctionDef)]
+                self.assertEqual(len(found), len(set(found)), one.name)
+                methods |= set(found)
+            for node in ast.walk(tree):
+                if isinstance(node, ast.Attribute):
+                    (values if isinstance(node.ctx, ast.Store) else asked).add(node.attr)
+        self.assertEqual(methods & values, set())
+        self.assertLessEqual(asked, methods | values | PYTHONS_METHODS)
+        kinds = (str, int, list, dict, set, bytes)
+        self.assertEqual({name for name in values | methods - METHODS for kind in kinds if hasattr(kind, name)}, set())
+
+    def test_the_top_of_a_file(self):
+        for name, tree in self.trees.items():
+            bound = []
+            for node in tree.body:
+                self.assertIsInstance(node, (ast.Expr, ast.ImportFrom, ast.FunctionDef, ast.ClassDef, ast.Assign), name)
+                if isinstance(node, ast.ImportFrom):
+                    bound += [alias.asname or alias.name for alias in node.names]
+                elif isinstance(node, ast.Assign):
+                    bound += [target.id for target in node.targets]
+                    self.assertFalse(any(isinstance(part, ast.Call) for part in ast.walk(node)), name)
+                elif not isinstance(node, ast.Expr):
+                    bound.append(node.name)
+            self.assertEqual(len(bound), len(set(bound)), name)
+
+    def test_raised_on_the_spot_and_taken_by_name(self):
+        own = {node.name for node in self.trees["errors.py"].body if isinstance(node, ast.ClassDef)}
+        for name, tree in self.trees.items():
+            for node in ast.walk(tree):
+                if isinstance(node, ast.Raise):
+                    self.assertIn(ast.unparse(node.exc.func), own, name)
+                    self.assertTrue(node.cause is None or ast.unparse(node.cause) == "None", name)
+                if isinstance(node, ast.ExceptHandler):
+                    taken = node.type.elts if isinstance(node.type, ast.Tuple) else [node.type]
+                    self.assertLessEqual({ast.unparse(one) for one in taken}, own, name)
+
+    def test_what_is_walked_on_the_spot(self):
+        for name, tree in self.trees.items():
+            kept = [node.value for node in ast.walk(tree) if isinstance(node, (ast.Assign, ast.Return))]
+            for value in kept:
+                if isinstance(value, ast.Call):
+                    self.assertNotRegex(
+                        ast.unparse(value.func), r"^(zip|enumerate|reversed|range|set)$|\.(items|keys|values)$", name,
+                    )
+
     def test_names(self):
         for name, tree in self.trees.items():
             for bound in names_bound(tree):
